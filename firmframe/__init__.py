@@ -1,0 +1,1 @@
+"""A frame that stands firm: walls of squares, braced by bars and by ties."""
