@@ -3,6 +3,7 @@
 from firmframe.base import NOT_THERE
 from firmframe.base import OUT_OF_RANGE
 from firmframe.base import THERE_ALREADY
+from firmframe.base import bent_squares
 from firmframe.base import column_strip
 from firmframe.base import counted
 from firmframe.base import flattened
@@ -128,7 +129,7 @@ def call_thin(wall, handed):
 def call_turn(wall, way):
     if len(way) != strip_count(wall):
         return [OUT_OF_RANGE]
-    bent = [square for square in squares(wall) if way[square[0]] != way[column_strip(wall, square[1])]]
+    bent = bent_squares(wall, way)
     broken = [bar for bar in wall.bars if bar in bent]
     return [1 if len(broken) == 0 else 0, len(bent)]
 

@@ -5,6 +5,10 @@ NOT_THERE = -6
 NOT_BEGUN = -11
 THERE_ALREADY = -17
 OUT_OF_RANGE = -22
+TOO_MANY = -28
+NOT_SO = -33
+
+KINDS = 2
 
 
 class Wall:
@@ -33,6 +37,11 @@ def squares(wall):
         for column in range(wall.columns):
             found.append((row, column))
     return found
+
+
+def bent_squares(wall, way):
+    """All squares of which row and column don't turn by as much, row by row."""
+    return [square for square in squares(wall) if way[square[0]] != way[column_strip(wall, square[1])]]
 
 
 def part_count(firsts):

@@ -1,20 +1,22 @@
 """The calls on one wall, told as one list of whole numbers."""
 
 from firmframe.bars import bar_answer
+from firmframe.base import KINDS
 from firmframe.base import NONE_SUCH
 from firmframe.base import NOT_BEGUN
 from firmframe.base import OUT_OF_RANGE
 from firmframe.base import Wall
 from firmframe.base import counted
 from firmframe.base import strip_count
+from firmframe.both import both_answer
 from firmframe.ties import tie_answer
 
 MOST_ROWS = 5
 MOST_COLUMNS = 5
-KINDS = 2
 
 BEGIN = 0
 FIRST_TIE_CALL = 20
+FIRST_BOTH_CALL = 39
 
 WAY = "w"
 
@@ -66,7 +68,9 @@ def answer(wall, number, handed):
         return [NONE_SUCH]
     if number < FIRST_TIE_CALL:
         return bar_answer(wall, number, handed)
-    return tie_answer(wall, number, handed)
+    if number < FIRST_BOTH_CALL:
+        return tie_answer(wall, number, handed)
+    return both_answer(wall, number, handed)
 
 
 def answers(calls):

@@ -1,5 +1,7 @@
 """Calls told by their names, and their answers taken apart, so that the tests read like the document."""
 
+import itertools
+
 from firmframe.walls import answers
 
 NAMES = (
@@ -15,17 +17,19 @@ ARGUMENTS = {
     "begin": "mn", "brace": "ij", "free": "ij", "firm": "", "parts": "", "part": "s", "still": "ij", "stills": "",
     "alike": "ijkl", "spare": "ij", "spares": "", "put": "", "thin": "", "turn": "w", "falls": "ij", "would": "ij",
     "least": "", "all": "", "row": "i", "column": "j", "tie": "ijd", "untie": "ijd", "tfirm": "", "reach": "s",
-    "tpart": "s", "tparts": "",
-}
-
-LATER = {
-    "ends": "", "leans": "ijd", "tall": "", "lean": "ijd", "tturn": "w", "tspare": "ijd", "tspares": "", "tput": "",
-    "twould": "ijd", "tfalls": "ijd", "stiff": "ij", "flip": "ijd", "ties": "", "both": "", "single": "", "can": "",
-    "needed": "", "mixed": "", "mleans": "ijd", "mpart": "s", "idle": "", "clear": "", "change": "", "count": "",
-    "state": "",
+    "tpart": "s", "tparts": "", "ends": "", "leans": "ijd", "tall": "", "lean": "ijd", "tturn": "w", "tspare": "ijd",
+    "tspares": "", "tput": "", "twould": "ijd", "tfalls": "ijd", "stiff": "ij", "flip": "ijd", "ties": "", "both": "",
+    "single": "", "can": "", "needed": "", "mixed": "", "mleans": "ijd", "mpart": "s", "idle": "", "clear": "",
+    "change": "", "count": "", "state": "",
 }
 
 MOST = 4294967295
+
+RING = [(0, 0), (0, 1), (1, 1), (1, 0)]
+# Row 0, column 0, row 1, column 1 and back to row 0.
+ROUND = [(0, 0, 0), (1, 0, 1), (1, 1, 0), (0, 1, 1)]
+# What a wall of 2 by 3 has no tie for.
+FAR = ((2, 0, 0), (0, 3, 0), (0, 0, 2), (2, 3, 2), (MOST, 0, 1), (0, MOST, 1), (0, 0, MOST), (MOST, MOST, MOST))
 
 
 def told(calls):
@@ -74,17 +78,68 @@ def tied(rows, columns, ties):
     return [("begin", rows, columns)] + [("tie", row, column, kind) for row, column, kind in ties]
 
 
+def standing(rows, columns, bars, ties):
+    """A wall with these bars and these ties."""
+    return braced(rows, columns, bars) + tied(rows, columns, ties)[1:]
+
+
+def behind(wall, *calls):
+    """What these calls answer behind those that make the wall."""
+    return ask(*wall, *calls)[len(wall):]
+
+
+def on_bars(rows, columns, bars, *calls):
+    """What these calls answer on a wall with these bars alone."""
+    return behind(braced(rows, columns, bars), *calls)
+
+
+def on_ties(rows, columns, ties, *calls):
+    """What these calls answer on a wall with these ties alone."""
+    return behind(tied(rows, columns, ties), *calls)
+
+
+def on_both(rows, columns, bars, ties, *calls):
+    """What these calls answer on a wall with these bars and these ties."""
+    return behind(standing(rows, columns, bars, ties), *calls)
+
+
 def squares(rows, columns):
     return [(row, column) for row in range(rows) for column in range(columns)]
 
 
-# All that may be asked of a wall of 2 by 2 in this stage without changing it.
-QUESTIONS = (
-    [(name,) for name in (
-        "firm", "parts", "stills", "spares", "put", "thin", "least", "all", "tfirm", "tparts")]
-    + [(name, strip) for name in ("part", "reach", "tpart") for strip in range(4)]
-    + [(name, line) for name in ("row", "column") for line in range(2)]
-    + [(name, row, column) for name in ("still", "spare", "falls", "would") for row, column in squares(2, 2)]
-    + [("alike", 0, 0, 1, 1), ("alike", 0, 0, 0, 1), ("alike", 0, 0, 1, 0)]
-    + [("turn", [1, 1, 1, 1]), ("turn", [1, 0, 1, 0])]
+def both_kinds(places):
+    return [(row, column, kind) for row, column in places for kind in (0, 1)]
+
+
+def subsets(things):
+    for size in range(len(things) + 1):
+        yield from itertools.combinations(things, size)
+
+
+def some(chance, things):
+    """Some of these, in some order."""
+    return chance.sample(things, chance.randrange(len(things) + 1))
+
+
+def questions(rows, columns):
+    """All that may be asked of a wall of that size without changing it; of ways to turn, a few."""
+    places = squares(rows, columns)
+    strips = rows + columns
+    ways = ([1] * strips, [strip % 2 for strip in range(strips)], list(range(strips)), [0] * rows + [1] * columns)
+    found = [(name,) for name in ALONE]
+    found += [(name, strip) for name in ("part", "reach", "tpart", "mpart") for strip in range(strips)]
+    found += [("row", row) for row in range(rows)] + [("column", column) for column in range(columns)]
+    found += [(name,) + place for name in ("still", "spare", "falls", "would", "stiff") for place in places]
+    found += [
+        (name,) + tie for name in ("leans", "lean", "tspare", "twould", "tfalls", "mleans")
+        for tie in both_kinds(places)]
+    found += [("alike",) + places[0] + place for place in places]
+    return found + [(name, way) for name in ("turn", "tturn") for way in ways]
+
+
+ALONE = (
+    "firm", "parts", "stills", "spares", "put", "thin", "least", "all", "tfirm", "tparts", "ends", "tall", "tspares",
+    "tput", "ties", "can", "needed", "mixed", "idle", "change", "count", "state",
 )
+
+QUESTIONS = questions(2, 2)

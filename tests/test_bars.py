@@ -2,16 +2,10 @@
 
 import unittest
 
-from tests.lines import MOST, ask, braced, last, squares
+from tests.lines import MOST, RING, ask, braced, squares
+from tests.lines import on_bars as on
 
-RING = [(0, 0), (0, 1), (1, 1), (1, 0)]
 ALL_OF_5_BY_5 = squares(5, 5)
-
-
-def on(rows, columns, bars, *calls):
-    """What these calls answer on a wall with these bars."""
-    wall = braced(rows, columns, bars)
-    return ask(*wall, *calls)[len(wall):]
 
 
 class TellingTest(unittest.TestCase):

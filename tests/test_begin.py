@@ -2,7 +2,7 @@
 
 import unittest
 
-from tests.lines import ARGUMENTS, LATER, MOST, NAMES, ask, braced, last, tied
+from tests.lines import ARGUMENTS, MOST, NAMES, ask, braced, last, tied
 
 ZEROS = {"": (), "s": (0,), "i": (0,), "j": (0,), "ij": (0, 0), "ijd": (0, 0, 0), "ijkl": (0, 0, 0, 0), "mn": (0, 0)}
 
@@ -55,16 +55,16 @@ class BeginTest(unittest.TestCase):
 class NotBegunTest(unittest.TestCase):
 
     def test_all_calls_are_looked_at(self):
-        self.assertEqual(sorted(list(ARGUMENTS) + list(LATER)), sorted(NAMES))
+        self.assertEqual(sorted(ARGUMENTS), sorted(NAMES))
 
     def test_each_call_ahead_of_any_begin(self):
-        for name, letters in list(ARGUMENTS.items()) + list(LATER.items()):
+        for name, letters in ARGUMENTS.items():
             if name != "begin":
                 with self.subTest(name=name):
                     self.assertEqual(ask(plain_call(name, letters)), [[-11]])
 
     def test_each_call_behind_a_refused_begin(self):
-        for name, letters in list(ARGUMENTS.items()) + list(LATER.items()):
+        for name, letters in ARGUMENTS.items():
             if name != "begin":
                 with self.subTest(name=name):
                     self.assertEqual(ask(("begin", 6, 1), plain_call(name, letters)), [[-22], [-11]])
@@ -75,11 +75,12 @@ class NotBegunTest(unittest.TestCase):
             if letters in far:
                 with self.subTest(name=name):
                     self.assertEqual(ask((name,) + far[letters]), [[-11]])
-        self.assertEqual(ask(("turn", [])), [[-11]])
-        self.assertEqual(ask(("turn", [MOST] * 12)), [[-11]])
+        for name in ("turn", "tturn"):
+            self.assertEqual(ask((name, [])), [[-11]])
+            self.assertEqual(ask((name, [MOST] * 12)), [[-11]])
 
     def test_each_call_is_read_to_its_end(self):
-        calls = [plain_call(name, letters) for name, letters in list(ARGUMENTS.items()) + list(LATER.items())]
+        calls = [plain_call(name, letters) for name, letters in ARGUMENTS.items()]
         calls = [call for call in calls if call[0] != "begin"] + [("begin", 1, 1), ("firm",)]
         self.assertEqual(ask(*calls), [[-11]] * 50 + [[0], [0, 1]])
 

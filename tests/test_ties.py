@@ -1,21 +1,9 @@
-"""Promise 3, as far as it speaks of tie, untie, tfirm, reach, tpart, tparts."""
+"""Promise 3: ties told, taken back and flipped, and where one comes by them."""
 
 import unittest
 
-from tests.lines import MOST, ask, squares, tied
-
-# Row 0, column 0, row 1, column 1 and back to row 0.
-ROUND = [(0, 0, 0), (1, 0, 1), (1, 1, 0), (0, 1, 1)]
-
-
-def on(rows, columns, ties, *calls):
-    """What these calls answer on a wall with these ties."""
-    wall = tied(rows, columns, ties)
-    return ask(*wall, *calls)[len(wall):]
-
-
-def both_kinds(places):
-    return [(row, column, kind) for row, column in places for kind in (0, 1)]
+from tests.lines import FAR, MOST, ROUND, ask, both_kinds, on_both, squares, tied
+from tests.lines import on_ties as on
 
 
 class TellingTest(unittest.TestCase):
@@ -41,6 +29,66 @@ class TellingTest(unittest.TestCase):
         self.assertEqual(
             on(1, 2, both_kinds(squares(1, 2)), ("untie", 0, 0, 1), ("tparts",), ("tie", 0, 0, 1)),
             [[2], [3, 0, 1, 0], [1]])
+
+
+class FlipTest(unittest.TestCase):
+
+    def test_flip_answers_parts(self):
+        self.assertEqual(on(1, 1, [(0, 0, 0)], ("flip", 0, 0, 0), ("flip", 0, 0, 1)), [[2], [2]])
+        nearly = ROUND[:3] + [(0, 1, 0)]
+        self.assertEqual(on(2, 2, nearly, ("flip", 0, 1, 0), ("tfirm",)), [[1], [1, 1]])
+        self.assertEqual(on(2, 2, ROUND, ("flip", 1, 1, 0), ("tfirm",)), [[4], [0, 4]])
+
+    def test_flipped_is_of_the_other_kind(self):
+        self.assertEqual(on(1, 1, [(0, 0, 0)], ("flip", 0, 0, 0), ("ties",), ("reach", 0), ("reach", 1)), [
+            [2], [1, 0, 0, 1], [1, 0], [2, 0, 1]])
+        self.assertEqual(on(1, 1, [(0, 0, 1)], ("flip", 0, 0, 1), ("ties",), ("reach", 0), ("reach", 1)), [
+            [2], [1, 0, 0, 0], [2, 0, 1], [1, 1]])
+
+    def test_flipped_keeps_its_place(self):
+        ties = [(1, 1, 0), (0, 0, 0), (0, 1, 1)]
+        for tie, wanted in (
+                ((1, 1, 0), [3, 1, 1, 1, 0, 0, 0, 0, 1, 1]),
+                ((0, 0, 0), [3, 1, 1, 0, 0, 0, 1, 0, 1, 1]),
+                ((0, 1, 1), [3, 1, 1, 0, 0, 0, 0, 0, 1, 0])):
+            with self.subTest(tie=tie):
+                self.assertEqual(on(2, 2, ties, ("flip",) + tie, ("ties",))[1], wanted)
+
+    def test_flipped_twice_is_as_it_was(self):
+        self.assertEqual(
+            on(2, 2, ROUND, ("flip", 1, 0, 1), ("flip", 1, 0, 0), ("ties",)),
+            [[4], [1], [4, 0, 0, 0, 1, 0, 1, 1, 1, 0, 0, 1, 1]])
+
+    def test_flip_what_is_not_there(self):
+        self.assertEqual(
+            on(2, 2, [(0, 0, 0)], ("flip", 0, 0, 1), ("flip", 0, 1, 0), ("flip", 1, 0, 1), ("ties",)),
+            [[-6], [-6], [-6], [1, 0, 0, 0]])
+
+    def test_flip_where_the_other_kind_is_too(self):
+        self.assertEqual(
+            on(1, 1, [(0, 0, 1), (0, 0, 0)], ("flip", 0, 0, 0), ("flip", 0, 0, 1), ("ties",)),
+            [[-17], [-17], [2, 0, 0, 1, 0, 0, 0]])
+
+
+class InOrderTest(unittest.TestCase):
+
+    def test_ties_in_the_order_of_telling(self):
+        self.assertEqual(on(2, 2, [], ("ties",)), [[0]])
+        self.assertEqual(on(2, 2, [(1, 1, 1), (0, 1, 0), (1, 1, 0)], ("ties",)), [[3, 1, 1, 1, 0, 1, 0, 1, 1, 0]])
+
+    def test_what_is_untied_and_tied_again_comes_last(self):
+        self.assertEqual(
+            on(2, 2, [(1, 1, 1), (0, 1, 0)], ("untie", 1, 1, 1), ("ties",), ("tie", 1, 1, 1), ("ties",)),
+            [[4], [1, 0, 1, 0], [4], [2, 0, 1, 0, 1, 1, 1]])
+
+    def test_ties_of_many_sizes(self):
+        for rows, columns in ((1, 1), (1, 5), (5, 1), (3, 3), (2, 5), (5, 5)):
+            ties = both_kinds(squares(rows, columns))[::-1]
+            wanted = [len(ties)] + [number for tie in ties for number in tie]
+            self.assertEqual(on(rows, columns, ties, ("ties",)), [wanted])
+
+    def test_bars_are_no_ties(self):
+        self.assertEqual(on_both(2, 2, [(0, 0)], [(1, 0, 1)], ("ties",)), [[1, 1, 0, 1]])
 
 
 class ComingTest(unittest.TestCase):
@@ -105,16 +153,17 @@ class BarsAndTiesTest(unittest.TestCase):
 class NoneSuchTest(unittest.TestCase):
 
     def test_no_such_square_or_kind(self):
-        far = ((2, 0, 0), (0, 3, 0), (0, 0, 2), (2, 3, 2), (MOST, 0, 1), (0, MOST, 1), (0, 0, MOST))
-        for name in ("tie", "untie"):
-            for values in far:
+        for name in ("tie", "untie", "flip"):
+            for values in FAR:
                 with self.subTest(name=name, values=values):
-                    self.assertEqual(on(2, 3, [(0, 0, 0)], (name,) + values, ("reach", 0), ("reach", 2)), [
-                        [-2], [2, 0, 2], [1, 2]])
+                    self.assertEqual(on(2, 3, [(0, 0, 0)], (name,) + values, ("ties",), ("reach", 0)), [
+                        [-2], [1, 0, 0, 0], [2, 0, 2]])
 
     def test_rows_and_columns_are_not_mistaken(self):
         self.assertEqual(on(1, 5, [], ("tie", 0, 4, 0), ("tie", 4, 0, 0)), [[6], [-2]])
         self.assertEqual(on(5, 1, [], ("tie", 4, 0, 0), ("tie", 0, 4, 0)), [[6], [-2]])
+        self.assertEqual(on(1, 5, [(0, 4, 0)], ("flip", 0, 4, 0), ("flip", 4, 0, 0)), [[6], [-2]])
+        self.assertEqual(on(5, 1, [(4, 0, 0)], ("flip", 4, 0, 0), ("flip", 0, 4, 0)), [[6], [-2]])
 
     def test_no_such_strip(self):
         for name in ("reach", "tpart"):

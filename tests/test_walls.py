@@ -2,21 +2,19 @@
 
 import contextlib
 import io
-import itertools
 import unittest
 
 from firmframe.walls import answers
-from tests.lines import MOST, QUESTIONS, ask, braced, squares, tied, told
-from tests.models import Bars, firsts, tie_steps, walk
+from tests.lines import MOST, QUESTIONS, RING, ROUND, ask, behind, both_kinds, braced, squares, standing, told
 
-
-def subsets(things):
-    for size in range(len(things) + 1):
-        yield from itertools.combinations(things, size)
-
-
-def pairs(places):
-    return [len(places)] + [number for place in places for number in place]
+WALL = standing(2, 2, [(0, 0), (0, 1)], [(0, 0, 1)])
+# Every call that changes the wall, some of them refused; behind these it is as it was.
+CHANGES = [
+    ("both",), ("single",), ("clear",), ("tie", 0, 0, 1), ("flip", 0, 0, 1), ("untie", 0, 0, 0), ("tie", 0, 0, 1),
+    ("lean", 0, 0, 1), ("brace", 1, 0), ("single",), ("brace", 1, 1), ("single",), ("free", 1, 0), ("free", 1, 1),
+    ("begin", 2, 2), ("brace", 0, 0), ("brace", 0, 1), ("tie", 0, 0, 1),
+]
+EVERYTHING = told(WALL + QUESTIONS + CHANGES + QUESTIONS + [("tturn", [1, 2])])
 
 
 class FormTest(unittest.TestCase):
@@ -28,6 +26,9 @@ class FormTest(unittest.TestCase):
         self.assertEqual(answers([0, 1, 1, 13, 2, 7, 7, 3]), [1, 0, 2, 1, 0, 2, 0, 1])
         self.assertEqual(answers([0, 1, 1, 13, 0, 3]), [1, 0, 1, -22, 2, 0, 1])
         self.assertEqual(answers([0, 1, 1, 13, 12] + [3] * 12 + [3]), [1, 0, 1, -22, 2, 0, 1])
+        self.assertEqual(answers([0, 1, 1, 30, 2, 7, 7, 22]), [1, 0, 2, 1, 0, 2, 0, 2])
+        self.assertEqual(answers([0, 1, 1, 30, 0, 22]), [1, 0, 1, -22, 2, 0, 2])
+        self.assertEqual(answers([0, 1, 1, 30, 12] + [22] * 12 + [22]), [1, 0, 1, -22, 2, 0, 2])
 
     def test_a_refusal_is_its_number_alone(self):
         self.assertEqual(answers([3]), [1, -11])
@@ -41,17 +42,31 @@ class FormTest(unittest.TestCase):
             1, 0, 1, 0, 1, 1, 2, 0, 1, 3, 2, 0, 1, 2, 1, 0, 1, 0, 2, 0, 0, 1, 1, 1, -6, 1, 0, 3, 1, 0, 0, 1, 0,
             2, 1, 1, 1, -6, 2, 0, 1, 2, 1, 0, 1, 0, 1, 0, 1, 0, 1, 2, 1, -6, 2, 0, 2, 3, 2, 0, 1, 2, 1, 1, 3, 2, 0, 1])
 
+    def test_numbers_of_the_calls_on_ties(self):
+        calls = [0, 1, 1, 20, 0, 0, 1, 26, 27, 0, 0, 0, 28, 29, 0, 0, 0, 30, 2, 5, 6, 31, 0, 0, 1, 32, 33, 34, 0, 0, 0]
+        calls += [35, 0, 0, 1, 36, 0, 0, 37, 0, 0, 1, 38]
+        self.assertEqual(answers(calls), [
+            1, 0, 1, 2, 4, 1, 1, 0, 1, 1, 1, 3, 1, 1, 0, 3, 2, 1, 0, 2, 0, 1, 1, 0, 1, 0, 4, 1, 0, 0, 0, 2, 1, 1,
+            2, 2, 1, 2, 0, 0, 1, 2, 4, 1, 0, 0, 0])
+
+    def test_numbers_of_the_calls_on_both(self):
+        calls = [0, 1, 1, 1, 0, 0, 39, 40, 41, 42, 43, 44, 0, 0, 0, 45, 1, 46, 47, 48, 49, 50]
+        self.assertEqual(answers(calls), [
+            1, 0, 1, 0, 2, 2, 1, 1, -33, 2, 0, 1, 3, 1, 0, 0, 3, 1, 1, 0, 1, 0, 3, 2, 0, 1, 3, 1, 0, 0, 1, 2,
+            4, 0, 1, 2, 1, 3, 1, 0, 2, 4, 1, 1, 1, 0])
+
+    def test_ends_has_no_count_but_the_two(self):
+        self.assertEqual(answers([0, 1, 2, 20, 0, 0, 0, 26])[-7:], [6, 2, 2, 1, 2, 0, 2])
+
     def test_gives_back_a_list_of_whole_numbers(self):
-        calls = told(braced(2, 2, [(0, 0), (0, 1), (1, 1)]) + [("tie", 0, 0, 1)] + QUESTIONS)
-        given = answers(calls)
+        given = answers(EVERYTHING)
         self.assertIs(list, given.__class__)
         self.assertEqual({int}, {number.__class__ for number in given})
 
     def test_what_is_handed_in_is_as_it_was(self):
-        calls = told(braced(2, 2, [(0, 0), (0, 1)]) + tied(2, 2, [(0, 0, 1)]) + QUESTIONS + [("free", 0, 0)])
-        before = list(calls)
+        calls = list(EVERYTHING)
         answers(calls)
-        self.assertEqual(calls, before)
+        self.assertEqual(calls, EVERYTHING)
 
     def test_what_is_handed_in_is_never_changed(self):
         class Watched(list):
@@ -59,14 +74,12 @@ class FormTest(unittest.TestCase):
                 raise AssertionError("changed")
             append = extend = insert = pop = remove = clear = sort = reverse = refuse
             __setitem__ = __delitem__ = __iadd__ = __imul__ = refuse
-        calls = told(braced(2, 2, [(0, 0), (0, 1)]) + tied(2, 2, [(0, 0, 1)]) + QUESTIONS + [("turn", [1, 2])])
-        self.assertEqual(answers(Watched(calls)), answers(calls))
+        self.assertEqual(answers(Watched(EVERYTHING)), answers(EVERYTHING))
 
     def test_asking_twice_gives_the_same(self):
-        calls = told(braced(2, 2, [(0, 0), (0, 1)]) + [("tie", 0, 0, 1)] + QUESTIONS)
-        first = answers(calls)
-        self.assertEqual(answers([3, 17, 22]), [1, -11, 1, -11, 1, -11])
-        self.assertEqual(answers(calls), first)
+        first = answers(EVERYTHING)
+        self.assertEqual(answers([3, 17, 22, 38, 50]), [1, -11] * 5)
+        self.assertEqual(answers(EVERYTHING), first)
 
     def test_what_is_given_back_is_not_kept(self):
         calls = told(braced(1, 1, [(0, 0)]) + [("all",), ("parts",)])
@@ -78,40 +91,62 @@ class FormTest(unittest.TestCase):
     def test_prints_nothing(self):
         out = io.StringIO()
         with contextlib.redirect_stdout(out), contextlib.redirect_stderr(out):
-            answers(told(braced(2, 2, [(0, 0)]) + QUESTIONS))
+            answers(EVERYTHING)
         self.assertEqual(out.getvalue(), "")
 
     def test_400_calls(self):
         bars = squares(5, 5)
-        ties = [(row, column, kind) for row, column in bars for kind in (0, 1)]
-        calls = braced(5, 5, bars) + [("tie",) + tie for tie in ties]
-        calls += [("spares",), ("thin",), ("put",), ("tparts",)] * 81
+        calls = standing(5, 5, bars, both_kinds(bars))
+        calls += [("spares",), ("thin",), ("put",), ("tparts",), ("idle",), ("tspares",)] * 54
         self.assertEqual(len(calls), 400)
         found = ask(*calls)
         self.assertEqual(len(found), 400)
-        self.assertEqual(found[-4], pairs(bars))
-        self.assertEqual(found[-3][0], 9)
-        self.assertEqual(found[-2:], [[0], [10] + [0] * 10])
+        self.assertEqual(found[-6], [25] + [number for bar in bars for number in bar])
+        self.assertEqual(found[-5][0], 9)
+        self.assertEqual(found[-4:-2], [[0], [10] + [0] * 10])
+        self.assertEqual(found[-2], found[-6])
+        self.assertEqual(found[-1][0], 50)
+
+    def test_400_calls_that_try_many_sets(self):
+        calls = standing(3, 3, squares(3, 3)[:8], [(0, 0, 0), (1, 0, 1)]) + [("tput",)] * 389
+        self.assertEqual(len(calls), 400)
+        self.assertEqual(ask(*calls)[11:], [[4, 0, 1, 1, 1, 2, 0, 2, 1, 0, 2, 2, 1]] * 389)
+        # Each column needs a tie to it and one away from it: five are missing, though there are but four ends.
+        calls = standing(2, 4, [], [(0, 2, 1), (0, 3, 0), (1, 1, 1)]) + [("tput",)] * 396
+        self.assertEqual(ask(*calls)[4:], [[-33]] * 396)
+
+    def test_400_calls_that_try_many_kinds(self):
+        bars = [(0, column) for column in range(5)] + [(row, 0) for row in range(1, 5)]
+        calls = braced(5, 5, bars) + [("single",)] * 390
+        self.assertEqual(ask(*calls)[10:], [[-33]] * 390)
+
+    def test_400_calls_in_turns(self):
+        turns = [("brace", 1, 0), ("single",), ("tput",), ("untie", 1, 0, 1), ("tput",), ("both",), ("free", 1, 0)]
+        turns += [("single",)]
+        wanted = [[0], [4, 0, 1, 0, 1], [0], [4], [1, 1, 0, 1], [8, 1], [0], [-33]]
+        calls = braced(2, 2, RING[:3]) + turns * 49
+        self.assertEqual(len(calls), 396)
+        self.assertEqual(ask(*calls)[4:], wanted * 49)
 
     def test_400_calls_of_the_longest(self):
-        calls = told([("turn", [MOST] * 12)] * 400)
-        self.assertEqual(len(calls), 5600)
-        self.assertEqual(answers(calls), [1, -11] * 400)
+        for name in ("turn", "tturn"):
+            calls = told([(name, [MOST] * 12)] * 400)
+            self.assertEqual(len(calls), 5600)
+            self.assertEqual(answers(calls), [1, -11] * 400)
 
     def test_400_begins(self):
         self.assertEqual(ask(*[("begin", 5, 5), ("begin", 0, 9)] * 200), [[0], [-22]] * 200)
 
 
 class NothingChangesTest(unittest.TestCase):
-    WALL = braced(2, 2, [(1, 1), (0, 0), (0, 1)]) + [("tie", 1, 0, 1), ("tie", 0, 0, 0), ("tie", 0, 0, 1)]
+    WALL = standing(2, 2, [(1, 1), (0, 0), (0, 1)], [(1, 0, 1), (0, 0, 0), (0, 0, 1)])
 
     def assert_unchanged(self, call, refusal=None):
-        before = ask(*self.WALL, *QUESTIONS)
-        after = ask(*self.WALL, call, *QUESTIONS)
-        answer = after.pop(len(self.WALL))
+        before = behind(self.WALL, *QUESTIONS)
+        after = behind(self.WALL, call, *QUESTIONS)
         if refusal is not None:
-            self.assertEqual(answer, [refusal])
-        self.assertEqual(after, before)
+            self.assertEqual(after[0], [refusal])
+        self.assertEqual(after[1:], before)
 
     def test_what_is_refused_changes_nothing(self):
         refused = [
@@ -123,122 +158,63 @@ class NothingChangesTest(unittest.TestCase):
             (("would", 0, 2), -2), (("row", 2), -2), (("column", 2), -2), (("tie", 0, 0, 0), -17),
             (("tie", 1, 0, 1), -17), (("tie", 0, 0, 2), -2), (("tie", 2, 0, 0), -2), (("untie", 1, 1, 0), -6),
             (("untie", 1, 0, 0), -6), (("untie", 1, 0, 2), -2), (("reach", 4), -2), (("tpart", MOST), -2),
+            (("leans", 0, 2, 0), -2), (("lean", 2, 0, 0), -2), (("lean", 0, 0, 0), -33), (("tturn", [1, 2, 3]), -22),
+            (("tturn", []), -22), (("tspare", 0, 0, 2), -2), (("tspare", 1, 0, 0), -6), (("twould", 2, 0, 0), -2),
+            (("twould", 1, 0, 1), -17), (("tfalls", 0, MOST, 0), -2), (("tfalls", 1, 0, 0), -6), (("stiff", 0, 2), -2),
+            (("flip", 1, 0, 2), -2), (("flip", 1, 0, 0), -6), (("flip", 0, 0, 0), -17), (("flip", 0, 0, 1), -17),
+            (("single",), -33), (("mleans", 0, 0, MOST), -2), (("mpart", 4), -2),
         ]
         for call, refusal in refused:
             with self.subTest(call=call):
                 self.assert_unchanged(call, refusal)
+
+    def test_what_is_too_much_changes_nothing(self):
+        wall = standing(2, 5, squares(2, 5)[::-1], [(1, 4, 1), (0, 0, 0), (0, 0, 1)])
+        asked = [("all",), ("ties",), ("state",), ("count",), ("mixed",), ("tall",), ("stills",)]
+        found = behind(wall, *asked, ("tput",), *asked, ("single",), *asked)
+        self.assertEqual([found[7], found[15]], [[-28], [-28]])
+        self.assertEqual(found[8:15], found[:7])
+        self.assertEqual(found[16:], found[:7])
+
+    def test_too_few_changes_nothing(self):
+        wall = standing(3, 3, squares(1, 3), [(1, 1, 1)])
+        asked = [("all",), ("ties",), ("state",), ("mixed",)]
+        found = behind(wall, *asked, ("tput",), ("single",), *asked)
+        self.assertEqual(found[4:6], [[-33], [-33]])
+        self.assertEqual(found[6:], found[:4])
 
     def test_no_question_changes_anything(self):
         for call in QUESTIONS:
             with self.subTest(call=call):
                 self.assert_unchanged(call)
 
-    def test_bars_and_ties_told_and_taken_back(self):
-        before = ask(*self.WALL, *QUESTIONS)[len(self.WALL):]
-        calls = self.WALL + [("brace", 1, 0), ("free", 1, 0), ("tie", 1, 1, 1), ("untie", 1, 1, 1)]
-        self.assertEqual(ask(*calls, *QUESTIONS)[len(calls):], before)
+    def test_what_is_changed_back_is_as_it_was(self):
+        found = behind(WALL, *QUESTIONS, *CHANGES, *QUESTIONS)
+        self.assertEqual(found[:len(QUESTIONS)], found[-len(QUESTIONS):])
+        calls = [("brace", 1, 0), ("free", 1, 0), ("tie", 1, 1, 1), ("untie", 1, 1, 1)]
+        calls += [("flip", 1, 0, 1), ("flip", 1, 0, 0)]
+        self.assertEqual(behind(self.WALL, *calls, *QUESTIONS)[len(calls):], behind(self.WALL, *QUESTIONS))
 
 
-class EveryWallTest(unittest.TestCase):
+class OrderOfRefusalsTest(unittest.TestCase):
 
-    def check_bars(self, rows, columns, bars):
-        wall = Bars(rows, columns, bars)
-        calls = braced(rows, columns, bars)
-        calls += [("firm",), ("parts",), ("stills",), ("spares",), ("put",), ("thin",), ("least",), ("all",)]
-        wanted = [
-            [1 if wall.shears == 0 else 0, wall.shears],
-            [wall.strips] + wall.firsts,
-            [len(wall.kept())] + [1 if wall.keeps(square) else 0 for square in wall.squares],
-            pairs([bar for bar in wall.bars if wall.spare(bar)]),
-            pairs(wall.put()), pairs(wall.thin()),
-            [rows + columns - 1, len(bars) - (wall.strips - wall.parts)],
-            pairs(wall.bars),
-        ]
-        for square in wall.squares:
-            calls += [("spare",) + square, ("falls",) + square, ("would",) + square]
-            if square in wall.bars:
-                less = wall.less(square)
-                wanted += [
-                    [1 if wall.spare(square) else 0], [len(wall.kept() - less.kept()), less.shears], [-17]]
-            else:
-                more = wall.more(square)
-                wanted += [[-6], [-6], [more.shears, len(more.kept() - wall.kept())]]
-        self.assertEqual(ask(*calls)[1 + len(bars):], wanted)
+    def test_none_such_goes_first(self):
+        wall = standing(1, 1, [(0, 0)], ROUND[:1] + [(0, 0, 1)])
+        for name, due in (("tie", -17), ("flip", -17), ("twould", -17), ("lean", -33)):
+            self.assertEqual(behind(wall, (name, 0, 0, 0), (name, 0, 0, 2), (name, 1, 0, 0), (name, 0, 1, 0)), [
+                [due], [-2], [-2], [-2]])
+        for name in ("untie", "flip", "tspare", "tfalls"):
+            self.assertEqual(behind(braced(1, 1, []), (name, 0, 0, 0), (name, 0, 0, 2), (name, 1, 0, 0)), [
+                [-6], [-2], [-2]])
 
-    def test_all_bars_of_small_walls(self):
-        for rows, columns in ((1, 1), (1, 4), (4, 1), (2, 2), (2, 3), (3, 2)):
-            for bars in subsets(squares(rows, columns)):
-                self.check_bars(rows, columns, bars)
-                self.check_bars(rows, columns, bars[::-1])
+    def test_not_there_goes_ahead_of_there_already(self):
+        wall = standing(1, 1, [], [(0, 0, 1)])
+        self.assertEqual(behind(wall, ("flip", 0, 0, 0), ("flip", 0, 0, 2), ("tie", 0, 0, 0), ("flip", 0, 0, 0)), [
+            [-6], [-2], [1], [-17]])
 
-    def test_bars_of_larger_walls(self):
-        for rows, columns in ((1, 5), (5, 1), (3, 3), (4, 3), (5, 5)):
-            places = squares(rows, columns)
-            for step in range(1, 8):
-                for start in range(step):
-                    order = [places[(start + 7 * k) % len(places)] for k in range(0, len(places), step)]
-                    self.check_bars(rows, columns, list(dict.fromkeys(order)))
-
-    def check_ties(self, rows, columns, ties):
-        strips = rows + columns
-        steps = tie_steps(rows, ties)
-        labels = firsts(strips, steps)
-        parts = len(set(labels))
-        calls = tied(rows, columns, ties) + [("tfirm",), ("tparts",)]
-        wanted = [[1 if parts == 1 else 0, parts], [strips] + labels]
-        for strip in range(strips):
-            calls += [("reach", strip), ("tpart", strip)]
-            wanted += [
-                pairs([[other] for other in sorted(walk(steps, strip))]),
-                pairs([[other] for other in range(strips) if labels[other] == labels[strip]])]
-        self.assertEqual(ask(*calls)[1 + len(ties):], wanted)
-
-    def test_all_ties_of_small_walls(self):
-        for rows, columns in ((1, 1), (1, 3), (3, 1), (2, 2)):
-            places = [(row, column, kind) for row, column in squares(rows, columns) for kind in (0, 1)]
-            for ties in subsets(places):
-                self.check_ties(rows, columns, ties)
-                self.check_ties(rows, columns, ties[::-1])
-
-    def test_ties_of_larger_walls(self):
-        for rows, columns in ((1, 5), (5, 1), (3, 4), (5, 5)):
-            places = [(row, column, kind) for row, column in squares(rows, columns) for kind in (0, 1)]
-            for step in range(1, 8):
-                for start in range(step):
-                    order = [places[(start + 11 * k) % len(places)] for k in range(0, len(places), step)]
-                    self.check_ties(rows, columns, list(dict.fromkeys(order)))
-
-
-class WhatHoldsTest(unittest.TestCase):
-
-    def test_by_bars_firm_just_if_it_cannot_shear(self):
-        ways = [list(way) for way in itertools.product((0, 1), repeat=5)]
-        for bars in subsets(squares(2, 3)):
-            wall = braced(2, 3, bars)
-            found = ask(*wall, ("firm",), *[("turn", way) for way in ways])[len(wall):]
-            kept = [way for way, answer in zip(ways, found[1:]) if answer[0] == 1]
-            # Each part may turn by 0 or by 1 as it likes; a firm wall only as a whole.
-            self.assertEqual(len(kept), 2 ** (found[0][1] + 1))
-            self.assertEqual(found[0][0] == 1, kept == [[0] * 5, [1] * 5])
-
-    def test_by_ties_firm_just_if_it_cannot_lean(self):
-        places = [(row, column, kind) for row, column in squares(2, 2) for kind in (0, 1)]
-        for ties in subsets(places):
-            leaning = False
-            for way in itertools.product((0, 1), repeat=4):
-                keeps = all(
-                    way[row] <= way[2 + column] if kind == 0 else way[2 + column] <= way[row]
-                    for row, column, kind in ties)
-                leaning = leaning or (keeps and len(set(way)) > 1)
-            wall = tied(2, 2, ties)
-            self.assertEqual(ask(*wall, ("tfirm",))[-1][0] == 0, leaning)
-
-    def test_shears_are_parts_less_one_and_bars_as_two_ties_are_as_firm(self):
-        for bars in subsets(squares(2, 3)):
-            ties = [(row, column, kind) for row, column in bars for kind in (0, 1)]
-            calls = braced(2, 3, bars) + [("tie",) + tie for tie in ties] + [("parts",), ("tparts",)]
-            found = ask(*calls)
-            self.assertEqual(found[-2], found[-1])
+    def test_too_many_goes_ahead_of_not_so(self):
+        self.assertEqual(behind(standing(2, 5, [], []), ("tput",), ("single",)), [[-28], [-33]])
+        self.assertEqual(behind(standing(5, 5, squares(2, 5), []), ("tput",), ("single",)), [[-28], [-28]])
 
 
 if __name__ == "__main__":
