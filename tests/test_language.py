@@ -32,6 +32,14 @@ WORDS = re.compile(
     r"|NamedTuple|TypedDict|TYPE_CHECKING|abstractmethod)\b|dataclass|overload|contextmanager")
 
 
+WALKERS = ("list", "tuple", "dict", "sorted", "sum", "any", "all", "enumerate", "zip", "min", "max")
+
+
+def called(node):
+    """The name of what is called here, or None."""
+    return node.func.id if isinstance(node, ast.Call) and isinstance(node.func, ast.Name) else None
+
+
 def package_files():
     found = []
     for folder, folders, names in os.walk(PACKAGE):
@@ -101,6 +109,42 @@ class LanguageTest(unittest.TestCase):
                     for alias in node.names:
                         self.assertIn(alias.name, top_names(defined), (path, alias.name))
                         self.assertIsNone(alias.asname)
+
+    def test_no_two_files_draw_from_one_another(self):
+        drawn = {}
+        for path, tree in trees():
+            name = os.path.basename(path)[:-3]
+            drawn[name] = {n.module.split(".")[1] for n in tree.body if isinstance(n, ast.ImportFrom)}
+        settled = set()
+        while len(settled) < len(drawn):
+            more = {name for name in drawn if drawn[name] <= settled} - settled
+            self.assertNotEqual(more, set(), (drawn, settled))
+            settled |= more
+
+    def test_is_stands_beside_none_true_and_false(self):
+        for path, tree in trees():
+            for node in ast.walk(tree):
+                if isinstance(node, ast.Compare) and isinstance(node.ops[0], (ast.Is, ast.IsNot)):
+                    self.assertIsInstance(node.comparators[0], ast.Constant, (path, node.lineno))
+                    self.assertIn(node.comparators[0].value, (None, True, False), (path, node.lineno))
+
+    def test_walked_at_once(self):
+        for path, tree in trees():
+            walked = []
+            for node in ast.walk(tree):
+                if isinstance(node, (ast.For, ast.comprehension)):
+                    walked.append(node.iter)
+                if called(node) in WALKERS:
+                    walked += node.args[:1]
+            for node in ast.walk(tree):
+                if called(node) in ("zip", "enumerate", "reversed", "range"):
+                    self.assertIn(node, walked, (path, node.lineno))
+
+    def test_no_keyword_but_those_allowed(self):
+        for path, tree in trees():
+            for node in ast.walk(tree):
+                if isinstance(node, ast.keyword):
+                    self.assertIn(node.arg, ("key", "reverse", "default", "start", "strict"), path)
 
     def test_names(self):
         for path, tree in trees():
